@@ -105,26 +105,28 @@ func TestCheck(t *testing.T) {
 	}
 }
 
-// TestMayBe: P8.4, of all windows of few modules.
+// TestMayBe: P8.4, of all windows of two candidates, for two others.
 func TestMayBe(t *testing.T) {
-	for from := range 64 {
-		for to := range 64 {
-			w := data(1, 0, digits(from), digits(to))
-			ok := valid.Window(w, 3) == api.OK
-			if want := each(append(digits(from), digits(to)...)); ok != want {
-				t.Error(w, ok)
-			}
+	fine := 0
+	for n := range 6 * 6 * 6 * 6 {
+		l := []int{n % 6, n / 6 % 6, n / 36 % 6, n / 216}
+		ok := valid.Window(data(1, 0, l[:2], l[2:]), 5) == api.OK
+		if ok != apart(l) {
+			t.Error(l, ok)
 		}
+		if ok {
+			fine++
+		}
+	}
+	if fine != 5*4*3*2 {
+		t.Error(fine)
 	}
 }
 
-// digits tells three numbers from 0 to 3.
-func digits(n int) []int { return []int{n % 4, n / 4 % 4, n / 16} }
-
-// each tells whether all are modules of three, and no one is twice there: six numbers never are.
-func each(l []int) bool {
+// apart tells whether all are modules of five, and no one is twice there.
+func apart(l []int) bool {
 	for n, m := range l {
-		if m > 2 || slices.Contains(l[:n], m) {
+		if m > 4 || slices.Contains(l[:n], m) {
 			return false
 		}
 	}
