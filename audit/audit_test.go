@@ -68,7 +68,7 @@ func TestCheck(t *testing.T) {
 		{nil, all, nil}, {[]pair.Event{sent(0, 7), took(2, 0, 7), took(3, 0, 7)}, all, nil}, {[]pair.Event{missed(2), missed(3)}, all, nil},
 		{[]pair.Event{took(2, 0, 7), missed(3)}, all, []int{audit.Split}}, {[]pair.Event{took(2, 0, 7), missed(3)}, []int{2}, nil}, {[]pair.Event{took(2, 0, 7), missed(2)}, []int{2}, []int{audit.Split}},
 		{[]pair.Event{took(2, 0, 7), took(3, 0, 8)}, all, []int{audit.Unlike}}, {[]pair.Event{took(2, 0, 7), took(3, 1, 7)}, all, []int{audit.Unlike}}, {[]pair.Event{took(2, 0, 7), took(3, 0, 8)}, []int{0, 3}, nil}, {[]pair.Event{took(2, 0, 7), took(2, 0, 8)}, all, nil}, {[]pair.Event{took(2, 0, 7), took(2, 0, 8), took(3, 0, 7)}, all, []int{audit.Unlike}},
-		{[]pair.Event{sent(0, 9), took(2, 0, 7)}, all, []int{audit.Wrong}}, {[]pair.Event{sent(0, 9), took(2, 0, 7)}, []int{1, 2, 3}, nil}, {[]pair.Event{sent(0, 9), took(2, 0, 7)}, []int{0, 1, 3}, nil}, {[]pair.Event{sent(0, 9), took(2, 1, 7)}, all, nil}, {[]pair.Event{sent(0, 9), took(2, 5, 7)}, all, nil}, {[]pair.Event{sent(0, 9), took(2, -1, 7)}, all, nil}, {[]pair.Event{sent(1, 7, 7), took(2, 1, 7)}, all, []int{audit.Wrong}},
+		{[]pair.Event{sent(0, 9), took(2, 0, 7)}, all, []int{audit.Wrong}}, {[]pair.Event{sent(0, 9), took(2, 0, 7)}, []int{1, 2, 3}, nil}, {[]pair.Event{sent(0, 9), took(2, 0, 7)}, []int{0, 1, 3}, nil}, {[]pair.Event{sent(0, 9), took(2, 1, 7)}, all, nil}, {[]pair.Event{sent(0, 9), took(2, 5, 7)}, all, nil}, {[]pair.Event{sent(0, 9), took(2, 2, 7)}, all, nil}, {[]pair.Event{sent(0, 9), took(2, -1, 7)}, all, nil}, {[]pair.Event{sent(1, 7, 7), took(2, 1, 7)}, all, []int{audit.Wrong}},
 		{[]pair.Event{took(1, 0, 7)}, all, []int{audit.Stray}}, {[]pair.Event{missed(0)}, all, []int{audit.Stray}}, {[]pair.Event{sent(2, 7)}, all, []int{audit.Stray}}, {[]pair.Event{sent(9, 7), missed(2)}, all, nil}, {[]pair.Event{took(1, 0, 7), took(2, 0, 7)}, []int{2}, nil},
 		{[]pair.Event{sent(0, 7), sent(1, 8)}, all, []int{audit.Twice}}, {[]pair.Event{sent(0, 7), sent(1, 8)}, []int{0, 2}, nil}, {[]pair.Event{sent(0, 7), sent(0, 8)}, all, nil},
 		{[]pair.Event{sent(0, 9), sent(1, 1), took(2, 0, 7), took(3, 0, 8), missed(0)}, all, []int{audit.Split, audit.Unlike, audit.Wrong, audit.Stray, audit.Twice}},
@@ -89,7 +89,7 @@ func TestWindows(t *testing.T) {
 	at := func(slot, version, since int) pair.Event {
 		return pair.Event{What: pair.Missed, Module: 2, Slot: slot, Version: version, Since: since, Cand: -1}
 	}
-	l := []pair.Event{at(2, 0, 500), at(1, 0, 100), at(2, 1, 500), at(0, 0, 0), at(3, 0, 900), at(2, 0, 5000), at(-5, 0, 1), at(2, 7, 1), at(2, -1, 1), at(math.MaxInt, 0, 1), at(math.MinInt, 1, 1)}
+	l := []pair.Event{at(2, 0, 500), at(1, 0, 100), at(2, 1, 500), at(0, 0, 0), at(3, 0, 900), at(2, 0, 5000), at(-5, 0, 1), at(2, 7, 1), at(2, 2, 1), at(2, -1, 1), at(math.MaxInt, 0, 1), at(math.MinInt, 1, 1)}
 	var want []audit.Flaw
 	for n := range l {
 		if n != 0 && n != 5 {

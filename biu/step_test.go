@@ -223,7 +223,8 @@ func TestMessage(t *testing.T) {
 	p := program(t, 2, []plan.Window{data(2, 5, []int{0, 1}, []int{2}), short}, nil)
 	for cand := range 2 {
 		for off := -4; off <= 3; off++ {
-			for _, slip := range []int{-1, 0, 1} {
+			for n := range 30 {
+				slip, at := n%3-1, 110+n/3
 				b := joined(t, p)
 				to(t, b, 1, 0)
 				s := b.Slot()
@@ -231,7 +232,7 @@ func TestMessage(t *testing.T) {
 				ended := false
 				for tick := 0; !ended; tick++ {
 					by := 0
-					if tick == 111 {
+					if tick == at {
 						by = slip
 					}
 					if _, place := b.Place(); place == 35+80*cand-off && !b.Clear() {

@@ -46,14 +46,15 @@ func TestAt(t *testing.T) {
 	c := course(budget.Slip{Tick: 7, By: 1}, budget.Slip{Tick: 7, By: 1}, budget.Slip{Tick: 7, Y: true, By: -1}, budget.Slip{Module: 3, Tick: 9, By: -5}, budget.Slip{Module: 3, Tick: 9, By: 5},
 		budget.Slip{Module: 2, Tick: -4, By: math.MaxInt}, budget.Slip{Module: 2, Tick: -4, By: math.MaxInt}, budget.Slip{Module: 2, Tick: -4, By: math.MinInt}, budget.Slip{Module: 2, Tick: -4, By: math.MinInt},
 		budget.Slip{Module: 4, Tick: 1, By: math.MaxInt}, budget.Slip{Module: 4, Tick: 1, By: math.MinInt}, budget.Slip{Module: 4, Tick: 1, By: 1},
-		budget.Slip{Module: 5, Tick: 1, By: math.MaxInt}, budget.Slip{Module: 5, Tick: 1, By: 1})
+		budget.Slip{Module: 5, Tick: 1, By: math.MaxInt}, budget.Slip{Module: 5, Tick: 1, By: 1},
+		budget.Slip{Module: 6, Tick: 1, By: 1}, budget.Slip{Module: 6, Tick: 2, By: 1 << 32}, budget.Slip{Module: 6, Tick: 3, By: -1 << 32}, budget.Slip{Module: 6, Tick: 4, By: 1 << 32}, budget.Slip{Module: 6, Tick: 4, By: -1 << 32})
 	for _, w := range []struct {
 		module int
 		y      bool
 		tick   int
 		want   int
 	}{
-		{0, false, 7, 1}, {0, true, 7, -1}, {0, false, 8, 0}, {1, false, 7, 0}, {3, false, 9, 0}, {3, true, 9, 0}, {2, false, -4, -1}, {4, false, 1, 0}, {5, false, 1, 1}, {math.MaxInt, false, math.MinInt, 0},
+		{0, false, 7, 1}, {0, true, 7, -1}, {0, false, 8, 0}, {1, false, 7, 0}, {3, false, 9, 0}, {3, true, 9, 0}, {2, false, -4, -1}, {4, false, 1, 0}, {5, false, 1, 1}, {6, false, 1, 1}, {6, false, 2, 1}, {6, false, 3, -1}, {6, false, 4, 0}, {math.MaxInt, false, math.MinInt, 0},
 	} {
 		if got := c.At(w.module, w.y, w.tick); got != w.want {
 			t.Error(w, got)

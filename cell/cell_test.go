@@ -102,6 +102,13 @@ func TestRead(t *testing.T) {
 			t.Errorf("moved %d: %v, %v", moved, b, ok)
 		}
 	}
+	for _, bit := range []bool{false, true} {
+		for _, moved := range []int{-6, 5, -16, 15, -20, 20} {
+			if b, ok := cell.Read(cell.Wave(bit), moved); ok || len(b) != 0 {
+				t.Errorf("%v moved %d: %v, %v", bit, moved, b, ok)
+			}
+		}
+	}
 	long := append(cell.Wave(true), make([]bool, 19)...)
 	if b, ok := cell.Read(long, 0); !ok || !slices.Equal(b, []bool{true}) {
 		t.Error(b, ok)

@@ -49,7 +49,7 @@ func TestSuspect(t *testing.T) {
 // TestShare: P40.3.
 func TestShare(t *testing.T) {
 	for _, c := range [][3]int{
-		{8, 8, 1000}, {8, 0, 0}, {8, 1, 125}, {3, 1, 333}, {3, 2, 666}, {1001, 1, 0}, {0, 5, 0}, {-8, 5, 0}, {math.MinInt, 5, 0}, {8, -5, 0}, {8, math.MinInt, 0}, {8, 9, 1000}, {8, math.MaxInt, 1000}, {1 << 40, 1 << 39, 500}, {math.MaxInt, 1 << 39, 500}, {1 << 41, 1 << 40, 1000}, {1 << 41, 1 << 41, 1000}, {math.MaxInt, math.MaxInt, 1000},
+		{8, 8, 1000}, {1, 1, 1000}, {8, 0, 0}, {8, 1, 125}, {3, 1, 333}, {3, 2, 666}, {1001, 1, 0}, {0, 5, 0}, {-8, 5, 0}, {math.MinInt, 5, 0}, {8, -5, 0}, {8, math.MinInt, 0}, {8, 9, 1000}, {8, math.MaxInt, 1000}, {1 << 40, 1 << 39, 500}, {math.MaxInt, 1 << 39, 500}, {1 << 41, 1 << 40, 1000}, {1 << 41, 1 << 41, 1000}, {math.MaxInt, math.MaxInt, 1000},
 	} {
 		for line := range 4 {
 			n := diag.Count{Bits: c[0]}

@@ -9,7 +9,7 @@ import (
 )
 
 func TestNumber(t *testing.T) {
-	for s, want := range map[string]int{"0": 0, "7": 7, "10": 10, "2147483647": 1<<31 - 1} {
+	for s, want := range map[string]int{"0": 0, "7": 7, "10": 10, "1999": 1999, "2147483647": 1<<31 - 1} {
 		if n, ok := digits.Number(s); !ok || n != want {
 			t.Error(s, n, ok)
 		}

@@ -108,11 +108,13 @@ func TestOn(t *testing.T) {
 			t.Error(module, n, code)
 		}
 	}
-	p.Pair(1).Unit(true).Power(true)
-	if n, code := entry.On(p, 1, 10); n != 0 || code != api.ErrState || p.Pair(1).Unit(false).State() != biu.Off {
-		t.Error(n, code)
+	for _, y := range []bool{false, true} {
+		p.Pair(1).Unit(y).Power(true)
+		if n, code := entry.On(p, 1, 10); n != 0 || code != api.ErrState || p.Pair(1).Unit(!y).State() != biu.Off {
+			t.Error(y, n, code)
+		}
+		p.Pair(1).Power(false)
 	}
-	p.Pair(1).Power(false)
 	if n, code := entry.On(p, 1, 30); n != 30 || code != api.ErrFar || p.Tick() != 30 || p.Pair(1).Unit(false).State() != biu.Listen {
 		t.Error(n, code, p.Tick())
 	}
@@ -132,7 +134,7 @@ func TestSame(t *testing.T) {
 		a, b, apart int
 		want        bool
 	}{
-		{0, 3, 0, true}, {0, 0, 0, true}, {0, 0, -1, false}, {0, 1, 0, false}, {0, 1, 1, true}, {1, 0, 1, true}, {0, 2, 0, false}, {2, 0, 1, true}, {1, 2, 1, false}, {1, 2, 2, true}, {1, 2, math.MaxInt, true}, {1, 2, math.MinInt, false},
+		{0, 3, 0, true}, {0, 0, 0, true}, {0, 0, -1, false}, {0, 1, 0, false}, {0, 1, 1, true}, {1, 0, 1, true}, {0, 2, 0, false}, {2, 0, 0, false}, {2, 0, 1, true}, {1, 2, 1, false}, {1, 2, 2, true}, {1, 2, math.MaxInt, true}, {1, 2, math.MinInt, false},
 		{0, 4, 9, false}, {-1, 0, 9, false}, {4, 4, 9, false},
 	} {
 		if got := entry.Same(p, c.a, c.b, c.apart); got != c.want {

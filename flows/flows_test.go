@@ -91,6 +91,21 @@ func TestBuild(t *testing.T) {
 	if l, _, code := flows.Build(2, 1, []flows.Flow{flow(1, 0, 2, zero, one)}); code != api.OK || len(l) != 2 {
 		t.Error(l, code)
 	}
+	often := flow(1, 0, 16, zero, one)
+	if l, _, code := flows.Build(16, 1, []flows.Flow{often}); code != api.OK || flows.Count(l, often) != 16 {
+		t.Error(l, code)
+	}
+	// as many messages as fit are, with the Shorts between them, 32 windows
+	many := slices.Repeat([]flows.Flow{flow(1, 0, 1, zero, one)}, 40)
+	most := 0
+	for n := range many {
+		if l, _, code := flows.Build(2, 0, many[:n]); code == api.OK {
+			most = max(most, len(l))
+		}
+	}
+	if most != 32 {
+		t.Error(most)
+	}
 }
 
 // TestShorts: P34.2, at the last bit that still fits, and one beyond.

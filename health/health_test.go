@@ -89,7 +89,7 @@ func TestSilent(t *testing.T) {
 		want []int
 	}{
 		{nil, nil}, {[]pair.Event{missed(1, 0, 0)}, []int{5}}, {[]pair.Event{missed(2, 0, 0), missed(1, 0, 0), missed(2, 0, 900), missed(5, 0, 0), missed(1, 1, 0)}, []int{1, 2, 5, 7}},
-		{[]pair.Event{missed(1, 0, 0), event(pair.Took, 1, 0, 1000, 0)}, nil}, {[]pair.Event{event(pair.Took, 5, 0, 1000, 1), missed(1, 0, 0)}, nil}, {[]pair.Event{missed(1, 0, 0), event(pair.Took, 1, 0, 1000, 1)}, []int{5}}, {[]pair.Event{missed(1, 0, 0), event(pair.Took, 1, 0, 1000, 9)}, []int{5}}, {[]pair.Event{missed(1, 0, 0), event(pair.Took, 1, 0, 1000, -1)}, []int{5}},
+		{[]pair.Event{missed(1, 0, 0), event(pair.Took, 1, 0, 1000, 0)}, nil}, {[]pair.Event{event(pair.Took, 5, 0, 1000, 1), missed(1, 0, 0)}, nil}, {[]pair.Event{missed(1, 0, 0), event(pair.Took, 1, 0, 1000, 1)}, []int{5}}, {[]pair.Event{missed(1, 0, 0), event(pair.Took, 1, 0, 1000, 9)}, []int{5}}, {[]pair.Event{missed(1, 0, 0), event(pair.Took, 1, 0, 1000, 2)}, []int{5}}, {[]pair.Event{missed(1, 0, 0), event(pair.Took, 1, 0, 1000, -1)}, []int{5}},
 		{[]pair.Event{missed(1, 0, 0), event(pair.Took, 1, 0, 50, 1)}, nil}, {[]pair.Event{event(pair.Sent, 1, 0, 0, 0)}, nil}, {[]pair.Event{event(pair.Sent, 1, 0, 0, 0), missed(1, 0, 0)}, []int{5}},
 		{[]pair.Event{missed(3, 0, 0), missed(4, 0, 0), missed(0, 0, 0), missed(6, 0, 0), missed(2, 1, 0), missed(1, 2, 0), missed(1, -1, 0), missed(math.MinInt, 0, 0), missed(math.MaxInt, 0, 0)}, nil},
 	} {

@@ -67,6 +67,10 @@ func TestPut(t *testing.T) {
 	if got := p.Drop(); got != 2 || p.Waiting() != 0 || p.Flush() != 0 || !m.Same(was) {
 		t.Error(got, p.Waiting())
 	}
+	p.Put(0, []byte{1})
+	if got := p.Drop(); got != 1 || p.Waiting() != 0 {
+		t.Error(got, p.Waiting())
+	}
 	// Behind a Drop all goes on in order.
 	p.Put(0, []byte{1})
 	p.Put(0, []byte{2})

@@ -96,6 +96,10 @@ func TestPut(t *testing.T) {
 	if code != api.OK || !bytes.Equal(b, want) {
 		t.Error(b, code)
 	}
+	long := image.Image{Module: 1, Entry: [2]int{300, 1023}, Code: make([]byte, 1024)}
+	if b, code := long.Put(); code != api.OK || !bytes.Equal(b[:9], []byte{'T', '1', 1, 1, 44, 3, 255, 4, 0}) || len(b) != 1035 {
+		t.Error(b[:9], code)
+	}
 	b[9] = 0
 	if !m.Same(sample()) {
 		t.Error("the image was changed")

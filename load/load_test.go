@@ -64,7 +64,7 @@ func TestShare(t *testing.T) {
 	for _, c := range []struct {
 		l    load.Load
 		want int
-	}{{load.Of(sample(), 0), 40000 / 98}, {load.Of(sample(), 1), 64000 / 104}, {load.Load{}, 0}, {load.Load{Words: 5}, 0}, {load.Load{Words: 5, All: -5}, 0}, {load.Load{Words: 1, All: 3}, 333}, {load.Load{Words: 2, All: 3}, 666}, {load.Load{Words: 8, All: 8}, 1000}} {
+	}{{load.Of(sample(), 0), 40000 / 98}, {load.Of(sample(), 1), 64000 / 104}, {load.Load{}, 0}, {load.Load{Words: 5}, 0}, {load.Load{Words: 5, All: -5}, 0}, {load.Load{Words: 1, All: 1}, 1000}, {load.Load{Words: 1, All: 3}, 333}, {load.Load{Words: 2, All: 3}, 666}, {load.Load{Words: 8, All: 8}, 1000}} {
 		if got := c.l.Share(); got != c.want {
 			t.Error(c, got)
 		}

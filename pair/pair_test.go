@@ -334,13 +334,161 @@ func TestBothClear(t *testing.T) {
 	r.run(700)
 	want(t, r.pairs[1].Events())
 	// A unit that is off lets the other one not send.
-	r = newRig(t, 2, data(1, 5, []int{0}, []int{1}))
-	r.pairs[0].Unit(true).Power(false)
-	r.run(700)
-	for _, e := range r.pairs[0].Events() {
-		if e.What == pair.Sent {
-			t.Error(e)
+	for _, y := range []bool{false, true} {
+		r = newRig(t, 2, data(1, 5, []int{0}, []int{1}))
+		r.pairs[0].Unit(y).Power(false)
+		r.run(700)
+		for _, e := range r.pairs[0].Events() {
+			if e.What == pair.Sent {
+				t.Error(y, e)
+			}
 		}
+	}
+}
+
+// TestOneClear: P23.2: where one unit alone saw somebody, nothing is sent.
+func TestOneClear(t *testing.T) {
+	for late := range 2 {
+		b := tables(t, 2, data(1, 5, []int{0}, []int{1}))
+		// one unit sees lines 5 ticks later, so it is 5 ticks behind the other one
+		var skew [2]int
+		skew[late] = 5
+		p := pair.New(b[0], skew)
+		p.Join(0)
+		for tick := range 300 {
+			p.Ready(tick)
+			l := p.Drive(fault.Fault{}, tick)
+			if tick >= 60 && tick < 140 {
+				l = 15
+			}
+			if tick == 225 {
+				l = 9 // the one ahead sees it, and decides 5 ticks later; the other one has not seen it then
+			}
+			if ahead, behind := p.Unit(late == 0), p.Unit(late == 1); tick == 230 && (ahead.Clear() || !behind.Clear()) {
+				t.Error(late, ahead.Clear(), behind.Clear())
+			}
+			p.Step(l, tick, [2]int{})
+		}
+		for _, e := range p.Events() {
+			if e.What == pair.Sent {
+				t.Error(late, e)
+			}
+		}
+		if !p.InSync() {
+			t.Error(late)
+		}
+	}
+}
+
+// TestNotes: P23.2: a note is begun anew where nobody, or the same one, takes part in it, whatever the ticks are.
+func TestNotes(t *testing.T) {
+	r := newRig(t, 2, data(1, 5, []int{0}, []int{1}))
+	for tick := range 2000 {
+		l := wires.Lines(0)
+		for _, p := range r.pairs {
+			p.Ready(7)
+		}
+		for _, p := range r.pairs {
+			l |= p.Drive(fault.Fault{}, 7)
+		}
+		for _, p := range r.pairs {
+			p.Step(l, tick, [2]int{})
+		}
+	}
+	sent, took := r.pairs[0].Events(), r.pairs[1].Events()
+	if len(sent) != 3 || len(took) != 3 || sent[2].Since != 7 || took[2].What != pair.Took {
+		t.Error(sent, took)
+	}
+}
+
+// TestStale: P23.2: who begins a slot 50 ticks behind the other one begins its note anew.
+func TestStale(t *testing.T) {
+	for late, want := range map[int]int{0: 1, 49: 1, 50: 0, 51: 0, 1000: 0, -5: 1} {
+		for _, y := range []bool{false, true} {
+			p := pair.New(tables(t, 2)[0], [2]int{})
+			p.Memory().Write(0, []byte{1})
+			p.Unit(y).Join(0)
+			p.Ready(100)
+			p.Unit(!y).Join(0)
+			p.Ready(100 + late)
+			for tick := range 200 {
+				l := wires.Lines(0)
+				if tick >= 60 && tick < 140 {
+					l = 15
+				}
+				p.Step(l, tick, [2]int{})
+			}
+			// where both took part, the slot Long is over, and a frame went by
+			if got := p.Memory().Age(0); got != want {
+				t.Error(late, y, got)
+			}
+		}
+	}
+}
+
+// TestNotInSync: P23.4: a slot is not over, where a unit was not in sync all the time.
+func TestNotInSync(t *testing.T) {
+	for _, y := range []bool{false, true} {
+		r := newRig(t, 2)
+		p := r.pairs[1]
+		p.Memory().Write(0, []byte{1})
+		r.run(10)
+		p.Unit(y).Power(false)
+		p.Unit(y).Power(true)
+		r.run(190)
+		if p.Unit(y).State() != biu.Enter || p.Memory().Age(0) != 0 || r.pairs[0].Unit(y).State() != biu.Sync {
+			t.Error(y, p.Unit(y).State(), p.Memory().Age(0))
+		}
+		if slot, _ := p.Unit(y).Place(); slot != 1 {
+			t.Error(y, slot)
+		}
+	}
+}
+
+// TestOnePulsed: P23.4: a pulse that one unit alone saw is enough for a message to be missed, and to turn.
+func TestOnePulsed(t *testing.T) {
+	for u := range 2 {
+		r := newRig(t, 2, data(1, 5, []int{0}, []int{1}))
+		r.slips = func(module, tick int) [2]int {
+			var slips [2]int
+			if module == 1 && tick == 205 {
+				slips[u] = -1
+			}
+			return slips
+		}
+		// 10 ticks of a pulse end where it just counts, for who is not a tick behind
+		r.change = func(tick int, l wires.Lines) wires.Lines {
+			if tick >= 200+241 && tick <= 200+250 {
+				return 15
+			}
+			return l
+		}
+		r.run(600)
+		want(t, r.pairs[1].Events(), pair.Event{Tick: 560, Module: 1, What: pair.Missed, Slot: 1, Since: 200, Cand: -1})
+
+		r = newRig(t, 2)
+		r.pairs[1].Want(true)
+		r.slips = func(module, tick int) [2]int {
+			var slips [2]int
+			if module == 1 && tick == 202 {
+				slips[u] = -1
+			}
+			return slips
+		}
+		r.change = func(tick int, l wires.Lines) wires.Lines {
+			if tick >= 200 && tick < 320 {
+				l = 0
+			}
+			if tick >= 201 && tick <= 210 {
+				return 15
+			}
+			return l
+		}
+		r.run(340)
+		if r.pairs[1].Wants() || r.pairs[1].Unit(u == 1).Version() != 0 || r.pairs[1].Unit(u == 0).Version() != 1 {
+			t.Error(u, r.pairs[1].Wants())
+		}
+		want(t, r.pairs[1].Events(), pair.Event{Tick: 320, Module: 1, What: pair.Turned, Slot: 1, Since: 200})
 	}
 }
 
@@ -365,6 +513,11 @@ func TestVeto(t *testing.T) {
 		for m, p := range r.pairs {
 			r.drove[m] = p.Drive(r.fault, r.tick)
 			r.lines |= r.drove[m]
+		}
+		for _, y := range []bool{false, true} {
+			if pulses := r.pairs[2].Unit(y).Role().Pulses; r.tick >= 200 && r.tick < 560 && pulses != (r.tick >= 460) {
+				t.Fatal(r.tick, y, pulses)
+			}
 		}
 		if in := r.tick >= 480 && r.tick < 520; in && r.drove[2] != 15 || !in && r.tick >= 440 && r.tick < 560 && r.drove[2] != 0 {
 			t.Fatal(r.tick, r.drove)
@@ -504,6 +657,9 @@ func TestDied(t *testing.T) {
 		for range 600 {
 			r.step()
 			// what the faulty side drives comes to the lines just where the other one lets it
+			if one := r.pairs[0].Dead(); one != (r.tick > 245) || (r.pairs[0].Unit(y).State() == biu.Dead) != (r.tick > 255) {
+				t.Fatal(y, r.tick, one)
+			}
 			if part := r.drove[0].Side(y); part != 0 && !(r.tick-1 >= 56 && r.tick-1 < 144) && !(r.tick-1 >= 236 && r.tick-1 <= 245) {
 				t.Fatal(y, r.tick-1, r.drove)
 			}

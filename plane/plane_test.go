@@ -288,6 +288,16 @@ func TestNext(t *testing.T) {
 	if n, ok := p.Next(math.MaxInt); n != 680 || !ok {
 		t.Error(n, ok)
 	}
+	// It is the unit x that counts.
+	s := setup()
+	s.Course.Slips = []budget.Slip{{Y: true, Tick: 500, By: 1}}
+	if n, ok := made(t, s).Next(1000); n != 680 || !ok {
+		t.Error(n, ok)
+	}
+	s.Course.Slips[0].Y = false
+	if n, ok := made(t, s).Next(1000); n != 679 || !ok {
+		t.Error(n, ok)
+	}
 	for _, most := range []int{0, -1, math.MinInt} {
 		if n, ok := p.Next(most); n != 0 || ok {
 			t.Error(most, n, ok)

@@ -60,7 +60,7 @@ func TestPut(t *testing.T) {
 			t.Error(n, bit, is, s.Seen())
 		}
 	}
-	s.Put(7, true, 6)
+	s.Put(7, true, 9)
 	if bit, is := s.Line(0, 7); bit || is || s.Seen() != 3 {
 		t.Error(bit, is, s.Seen())
 	}

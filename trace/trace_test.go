@@ -185,6 +185,7 @@ func TestText(t *testing.T) {
 	}
 	for want, e := range map[string]pair.Event{
 		"719 1 took 1 0 0 a53c": {Tick: 719, Module: 1, What: pair.Took, Slot: 1, Since: 200, Words: []byte{0xa5, 0x3c}},
+		"7 3 sent 2 1 3 0b":     {Tick: 7, Module: 3, What: pair.Sent, Slot: 2, Version: 1, Cand: 3, Words: []byte{11}},
 		"559 2 missed 4 1 -1":   {Tick: 559, Module: 2, What: pair.Missed, Slot: 4, Version: 1, Cand: -1},
 		"-5 -1  -1 -2 3 00ff":   {Tick: -5, Module: -1, What: 9, Slot: -1, Version: -2, Cand: 3, Words: []byte{0, 255}},
 		"0 0  0 0 0":            {Words: []byte{}},
