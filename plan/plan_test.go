@@ -114,6 +114,34 @@ func TestViewCut(t *testing.T) {
 	}
 }
 
+// TestViewNobody: P7.2: a message that nobody may send has the room of one candidate, and counts as having one.
+func TestViewNobody(t *testing.T) {
+	for n, from := range [][]int{nil, {}, make([]int, 0, 3), []int{4, 5}[:0]} {
+		l := []plan.Window{data(1, 7, from, []int{1}), {Kind: plan.Short}, data(3, 0, from, nil)}
+		for version := range 2 {
+			s := plan.Schedule{Modules: 2}
+			s.Frames[version] = l
+			first := 200 + 40*version
+			for _, module := range []int{math.MinInt, -1, 0, 1, 4, math.MaxInt} {
+				want := []plan.Slot{
+					{Kind: plan.Long, Long: first, Cand: -1},
+					{Kind: plan.Data, Start: first, Long: 360, Words: 1, Addr: 7, Many: 1, Cand: -1, Take: module == 1},
+					{Kind: plan.Short, Start: first + 360, Long: 120, Cand: -1},
+					{Kind: plan.Data, Start: first + 480, Long: 680, Words: 3, Many: 1, Cand: -1},
+					{Kind: plan.Version, Start: first + 1160, Long: 120, Cand: -1},
+				}
+				got := plan.View(s, version, module)
+				if !slices.Equal(got, want) {
+					t.Fatalf("%d %d %d: %+v", n, version, module, got)
+				}
+				if got[1].Begin(0) != 40 || got[1].Begin(1) != 0 {
+					t.Error(n, got[1].Begin(0), got[1].Begin(1))
+				}
+			}
+		}
+	}
+}
+
 // TestPulse: P7.3.
 func TestPulse(t *testing.T) {
 	for _, c := range []struct {
@@ -207,7 +235,7 @@ func TestOneBehindTheOther(t *testing.T) {
 		var l []plan.Window
 		for k := range n % 9 {
 			w := plan.Window{Kind: (n + k*k) % 3, Bits: 1 + (n*7+k)%50, Words: 1 + (n+k)%8}
-			w.From = []int{0, 1, 2, 3}[:1+(n+k)%4]
+			w.From = []int{0, 1, 2, 3}[:(n+k)%5]
 			l = append(l, w)
 		}
 		s := plan.Schedule{Frames: [2][]plan.Window{l, l}}
@@ -222,6 +250,9 @@ func TestOneBehindTheOther(t *testing.T) {
 				from, to := slot.Pulse()
 				if slot.Kind != plan.Gap && (from < 40 || to <= from || to > slot.Long-40) {
 					t.Fatal(n, slot, from, to)
+				}
+				if slot.Kind == plan.Data != (slot.Many > 0) {
+					t.Fatal(n, slot)
 				}
 				for cand := range slot.Many {
 					if end := slot.Begin(cand) + 160*slot.Words; end+80 > from {

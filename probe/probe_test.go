@@ -115,6 +115,20 @@ func TestRead(t *testing.T) {
 	}
 }
 
+// TestNobody: P38.2: where a schedule names nobody who may send a message, it is heard as that of one candidate.
+func TestNobody(t *testing.T) {
+	s := schedule()
+	s.Frames[0] = s.Frames[0][1:]
+	p := made(t, plane.Setup{Schedule: s, On: 7})
+	p.Pair(2).Memory().Write(9, []byte{0x77})
+	w := record(p, plan.Frame(s, 0))
+	s.Frames[0][2].From = nil
+	want := probe.Message{Slot: 3, Words: []byte{0x77}, Known: true}
+	if got := probe.Read(s, w); len(got) != 1 || !got[0].Same(want) || got[0].Odd != [4]int{} {
+		t.Error(got)
+	}
+}
+
 // TestVersion: P38.2, of frames of version 1.
 func TestVersion(t *testing.T) {
 	p := made(t, plane.Setup{Schedule: schedule(), On: 7, Version: 1})
