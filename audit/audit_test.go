@@ -84,7 +84,7 @@ func TestCheck(t *testing.T) {
 	}
 }
 
-// TestWindows: P30.1: At is the window's number; windows that the schedule has not are stray.
+// TestWindows: P30.1: At is the window's number; windows that the schedule has not are stray, where a good module noted them.
 func TestWindows(t *testing.T) {
 	at := func(slot, version, since int) pair.Event {
 		return pair.Event{What: pair.Missed, Module: 2, Slot: slot, Version: version, Since: since, Cand: -1}
@@ -112,19 +112,71 @@ func TestWindows(t *testing.T) {
 	}
 }
 
-// TestMore: P30.3: more good modules have no fewer flaws.
+// TestNoWindow: P30.1: what is noted of a window that the schedule has not is stray just where a good module noted it.
+func TestNoWindow(t *testing.T) {
+	for _, at := range []struct{ slot, version int }{{1, 0}, {0, 0}, {3, 0}, {-5, 0}, {math.MaxInt, 0}, {math.MinInt, 0}, {2, 1}, {1, 1}, {2, 2}, {2, -1}, {2, math.MaxInt}, {2, math.MinInt}} {
+		for _, what := range []int{pair.Sent, pair.Took, pair.Missed} {
+			by := func(modules ...int) []pair.Event {
+				var l []pair.Event
+				for _, m := range modules {
+					l = append(l, pair.Event{What: what, Module: m, Slot: at.slot, Version: at.version, Since: 70, Words: []byte{5}})
+				}
+				return l
+			}
+			stray := []audit.Flaw{{What: audit.Stray}}
+			for n, c := range []struct {
+				modules, good []int
+				want          []audit.Flaw
+			}{
+				{[]int{3}, nil, nil}, {[]int{3}, []int{}, nil}, {[]int{3}, []int{0, 2}, nil}, {[]int{3}, []int{3}, stray}, {[]int{3}, []int{0, 3, 3}, stray},
+				{[]int{0, 3}, []int{1, 2}, nil}, {[]int{0, 3}, []int{0}, stray}, {[]int{-1}, []int{0}, nil}, {[]int{-1}, []int{-1}, stray},
+			} {
+				if got := audit.Check(schedule(), by(c.modules...), c.good); !slices.Equal(got, c.want) {
+					t.Error(at, what, n, got, c.want)
+				}
+			}
+			if got := audit.Check(plan.Schedule{}, by(0), nil); len(got) != 0 {
+				t.Error(at, what, got)
+			}
+		}
+	}
+	// Windows that nobody good noted count for At.
+	l := []pair.Event{{What: pair.Missed, Module: 3, Slot: 1}, {What: pair.Missed, Module: 2, Slot: 9}, {What: pair.Sent, Module: 2, Slot: 2}}
+	if got := audit.Check(schedule(), l, []int{2}); !slices.Equal(got, []audit.Flaw{{What: audit.Stray, At: 1}, {What: audit.Stray, At: 2}}) {
+		t.Error(got)
+	}
+	// A window that is no Data is none, whoever stands in it.
+	s := plan.Schedule{Modules: 4, Frames: [2][]plan.Window{{{Kind: plan.Gap, Bits: 9, From: []int{0}, To: []int{2}}}}}
+	l = []pair.Event{{What: pair.Sent, Module: 0, Slot: 1, Words: []byte{5}}, {What: pair.Took, Module: 2, Slot: 1, Words: []byte{6}}}
+	for _, c := range []struct{ good, want []int }{{nil, nil}, {[]int{1, 3}, nil}, {[]int{0}, []int{audit.Stray}}, {[]int{2}, []int{audit.Stray}}, {[]int{0, 2}, []int{audit.Stray}}} {
+		var want []audit.Flaw
+		for _, what := range c.want {
+			want = append(want, audit.Flaw{What: what})
+		}
+		if got := audit.Check(s, l, c.good); !slices.Equal(got, want) {
+			t.Error(c, got)
+		}
+	}
+	// Two good modules that sent where there is no window: it is stray once, and twice.
+	l = []pair.Event{{What: pair.Sent, Module: 0, Slot: 5}, {What: pair.Sent, Module: 1, Slot: 5}}
+	if got := audit.Check(schedule(), l, []int{0, 1}); !slices.Equal(got, []audit.Flaw{{What: audit.Stray}, {What: audit.Twice}}) {
+		t.Error(got)
+	}
+}
+
+// TestMore: P30.3: more good modules have no fewer flaws, and without any there is none.
 func TestMore(t *testing.T) {
 	for seed := range int64(300) {
 		r := rand.New(rand.NewSource(seed))
 		var l []pair.Event
-		for range 25 {
-			l = append(l, pair.Event{What: 1 + r.Intn(4), Module: r.Intn(5), Slot: 1 + r.Intn(2), Since: r.Intn(600), Cand: r.Intn(3) - 1, Words: []byte{byte(r.Intn(2))}})
+		for range 60 {
+			l = append(l, pair.Event{What: 1 + r.Intn(4), Module: r.Intn(5), Slot: r.Intn(4), Version: r.Intn(2), Since: r.Intn(600), Cand: r.Intn(3) - 1, Words: []byte{byte(r.Intn(2))}})
 		}
 		good := r.Perm(5)
 		last := 0
 		for n := range 6 {
 			flaws := audit.Check(schedule(), l, good[:n])
-			if len(flaws) < last {
+			if len(flaws) < last || n == 0 && len(flaws) > 0 {
 				t.Fatal(seed, n, flaws)
 			}
 			last = len(flaws)
